@@ -3,6 +3,7 @@ package value
 
 import (
 	"slices"
+	"strconv"
 
 	"wicket/api"
 )
@@ -24,6 +25,19 @@ type Value struct {
 	Number int64
 	Truth  bool
 	Text   string // of a word, without its quotation marks
+}
+
+// String is the value as it is written.
+func (v Value) String() string {
+	switch v.Kind {
+	case Int:
+		return strconv.FormatInt(v.Number, 10)
+	case Bool:
+		return strconv.FormatBool(v.Truth)
+	case Word:
+		return `"` + v.Text + `"`
+	}
+	return "null"
 }
 
 // Type is int, bool or a list of words in its order; two types are the same

@@ -1,6 +1,7 @@
 package value
 
 import (
+	"math"
 	"strings"
 	"testing"
 )
@@ -54,5 +55,18 @@ func TestWithKeepsItsBounds(t *testing.T) {
 	}
 	if first := words("a"); first.With("b") == first || first.Has("b") {
 		t.Error("With changed the type that it was called on")
+	}
+}
+
+func TestString(t *testing.T) {
+	for want, v := range map[string]Value{
+		"null": {}, "0": {Kind: Int}, "-7": {Kind: Int, Number: -7},
+		"9223372036854775807": {Kind: Int, Number: math.MaxInt64}, "-9223372036854775808": {Kind: Int, Number: math.MinInt64},
+		"true": {Kind: Bool, Truth: true}, "false": {Kind: Bool},
+		`""`: {Kind: Word}, `"é\ n"`: {Kind: Word, Text: `é\ n`}, `"null"`: {Kind: Word, Text: "null"},
+	} {
+		if got := v.String(); got != want {
+			t.Errorf("%#v is written %s, want %s", v, got, want)
+		}
 	}
 }

@@ -181,5 +181,6 @@ func FuzzLoad(f *testing.F) {
 	f.Fuzz(func(t *testing.T, text string) {
 		sane(t, text)
 		reprint(t, text)
+		recheck(t, text)
 	})
 }

@@ -5,6 +5,7 @@ import (
 	"strings"
 
 	"wicket/api"
+	"wicket/check"
 	"wicket/parse"
 	"wicket/token"
 	"wicket/tree"
@@ -45,8 +46,19 @@ func (m *Model) Print() string {
 	return written.String()
 }
 
-// Check looks whether a table has a rule for everything, and no two (P5).
-func (m *Model) Check(table string) (api.Verdict, api.Errno) { return api.Verdict{}, api.OK }
+// Check looks whether a table has a rule for everything, and no two (P5). In
+// a model that did not come out there is no table.
+func (m *Model) Check(table string) (api.Verdict, api.Errno) {
+	if m == nil {
+		return api.Verdict{}, api.ErrTable
+	}
+	for _, item := range m.items {
+		if item.Kind == tree.Table && item.Name == table {
+			return check.Table(item, m.items), api.OK
+		}
+	}
+	return api.Verdict{}, api.ErrTable
+}
 
 // New begins a form (P6).
 func (m *Model) New() *Form { return nil }
