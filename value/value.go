@@ -16,6 +16,7 @@ const (
 	Int
 	Bool
 	Word
+	Wrong // of a value alone
 )
 
 // Value is one value; what its kind does not need is left at zero, so that
@@ -27,6 +28,12 @@ type Value struct {
 	Text   string // of a word, without its quotation marks
 }
 
+// OfInt is an int.
+func OfInt(number int64) Value { return Value{Kind: Int, Number: number} }
+
+// OfBool is a bool.
+func OfBool(truth bool) Value { return Value{Kind: Bool, Truth: truth} }
+
 // String is the value as it is written.
 func (v Value) String() string {
 	switch v.Kind {
@@ -36,6 +43,8 @@ func (v Value) String() string {
 		return strconv.FormatBool(v.Truth)
 	case Word:
 		return `"` + v.Text + `"`
+	case Wrong:
+		return "error"
 	}
 	return "null"
 }
@@ -71,4 +80,33 @@ func (t Type) Holds(v Value) bool {
 		return t.Kind == Word && t.Has(v.Text)
 	}
 	return t.Kind == v.Kind
+}
+
+// Read is the value of the type that is written so, if there is one. What is
+// guessed is written again, since a value is written in one way alone.
+func (t Type) Read(written string) (Value, bool) {
+	v := t.guess(written)
+	if v.String() != written {
+		return Value{}, false
+	}
+	return v, true
+}
+
+// guess is the value that is written so, or any other of the type. A word is
+// the type's own, so that what is written need not be kept.
+func (t Type) guess(written string) Value {
+	v := Value{Kind: t.Kind}
+	switch t.Kind {
+	case Int:
+		v.Number, _ = strconv.ParseInt(written, 10, 64)
+	case Bool:
+		v.Truth = written == strconv.FormatBool(true)
+	case Word:
+		for _, v.Text = range t.Words[:t.Count] {
+			if v.String() == written {
+				break
+			}
+		}
+	}
+	return v
 }

@@ -70,3 +70,59 @@ func TestString(t *testing.T) {
 		}
 	}
 }
+
+func TestStringOfWrong(t *testing.T) {
+	if got := (Value{Kind: Wrong}).String(); got != "error" {
+		t.Errorf("wrong is written %s", got)
+	}
+	if (Value{Kind: Wrong}) == (Value{}) {
+		t.Error("wrong is nothing")
+	}
+}
+
+func TestOf(t *testing.T) {
+	if OfInt(-3) != (Value{Kind: Int, Number: -3}) || OfBool(true) != (Value{Kind: Bool, Truth: true}) || OfBool(false) != (Value{Kind: Bool}) {
+		t.Error("a value is made of another kind, or another number")
+	}
+	if OfInt(0) == OfBool(false) || OfInt(0) == (Value{}) || OfBool(false) == (Value{}) {
+		t.Error("values of two kinds are the same")
+	}
+}
+
+func TestReadWhatIsWritten(t *testing.T) {
+	for _, c := range []struct {
+		of Type
+		v  Value
+	}{
+		{Type{Kind: Int}, OfInt(0)}, {Type{Kind: Int}, OfInt(7)}, {Type{Kind: Int}, OfInt(-7)}, {Type{Kind: Int}, OfInt(math.MaxInt64)}, {Type{Kind: Int}, OfInt(math.MinInt64)},
+		{Type{Kind: Bool}, OfBool(true)}, {Type{Kind: Bool}, OfBool(false)},
+		{words("x y"), Value{Kind: Word, Text: "x"}}, {words("x y"), Value{Kind: Word, Text: "y"}}, {words(""), Value{Kind: Word}},
+	} {
+		if got, ok := c.of.Read(c.v.String()); !ok || got != c.v {
+			t.Errorf("%s is read %v, %v", c.v, got, ok)
+		}
+	}
+}
+
+func TestReadWhatIsNot(t *testing.T) {
+	for _, written := range []string{
+		"", " ", "null", "error", "+1", "-0", "00", "01", "-01", "1 ", " 1", "1.0", "1e1", "0x1", "1_0", "--1", "-", "9223372036854775808", "-9223372036854775809",
+		"True", "TRUE", "t", "T", "true ", `"true"`, "x", `"`, `""`, `"z"`, `"x`, `x"`, `""x""`, `"x" `, `'x'`, `"X"`, `"x","y"`, strings.Repeat("9", 100000),
+	} {
+		for _, of := range []Type{{Kind: Int}, {Kind: Bool}, words("x y")} {
+			if got, ok := of.Read(written); ok || got != (Value{}) {
+				t.Errorf("%.30q is read as %v", written, got)
+			}
+		}
+	}
+	for _, c := range []struct {
+		of      Type
+		written string
+	}{
+		{Type{Kind: Int}, "true"}, {Type{Kind: Int}, `"1"`}, {Type{Kind: Bool}, "1"}, {Type{Kind: Bool}, "0"}, {Type{Kind: Bool}, `"x"`}, {words("1 true"), "1"}, {words("1 true"), "true"},
+	} {
+		if got, ok := c.of.Read(c.written); ok {
+			t.Errorf("%s is read as %v", c.written, got)
+		}
+	}
+}

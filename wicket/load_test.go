@@ -182,5 +182,6 @@ func FuzzLoad(f *testing.F) {
 		sane(t, text)
 		reprint(t, text)
 		recheck(t, text)
+		refill(t, text)
 	})
 }

@@ -15,9 +15,6 @@ import (
 // Model is a model that was read.
 type Model struct{ items []tree.Item }
 
-// Form is a form that is being filled in.
-type Form struct{}
-
 // Load reads a model (P3).
 func Load(text string) (*Model, api.Errno, int) {
 	if len(text) > api.MaxModel {
@@ -59,21 +56,3 @@ func (m *Model) Check(table string) (api.Verdict, api.Errno) {
 	}
 	return api.Verdict{}, api.ErrTable
 }
-
-// New begins a form (P6).
-func (m *Model) New() *Form { return nil }
-
-// Set answers a question (P6).
-func (f *Form) Set(question string, value string) api.Errno { return api.OK }
-
-// Drop takes an answer back (P6).
-func (f *Form) Drop(question string) api.Errno { return api.OK }
-
-// Value tells what an item comes to (P6).
-func (f *Form) Value(name string) (string, api.Errno) { return "", api.OK }
-
-// Last tells which decisions were worked out again (P7).
-func (f *Form) Last() []string { return nil }
-
-// Wanted tells which questions an item hangs on (P8).
-func (f *Form) Wanted(name string) ([]string, api.Errno) { return nil, api.OK }
