@@ -1,4 +1,4 @@
-// Package eval works out what decisions come to.
+// Package eval works out what decisions and expressions come to.
 package eval
 
 import (
@@ -17,6 +17,12 @@ func Decision(item tree.Item, values []value.Value) value.Value {
 		return s.table(item)
 	}
 	return s.expr(item.Expr)
+}
+
+// Expression is what an expression comes to, where values has what the items
+// that it names come to, by their numbers.
+func Expression(node *tree.Node, values []value.Value) value.Value {
+	return sheet(values).expr(node)
 }
 
 func (s sheet) expr(node *tree.Node) value.Value {

@@ -41,11 +41,10 @@ func (s sheet) standing(rule tree.Rule, columns []int) standing {
 	for n, cell := range rule.Cells {
 		column := s[columns[n]]
 		switch {
-		case cell.IsAnything():
-		case column.Kind == value.Wrong:
-			stands = broken
-		case !cell.Right(column):
+		case cell.PutsOut(column):
 			return out
+		case column.Kind == value.Wrong && !cell.IsAnything():
+			stands = broken
 		}
 	}
 	return stands

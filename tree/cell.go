@@ -22,6 +22,10 @@ func (c Cell) Right(v value.Value) bool {
 	return one != c.Not
 }
 
+// PutsOut tells whether the cell puts its rule out at what its column comes to.
+// Wrong puts no rule out: whether the cell is right can't be told.
+func (c Cell) PutsOut(v value.Value) bool { return v.Kind != value.Wrong && !c.Right(v) }
+
 func (t Test) right(v value.Value) bool {
 	ways := [...]func(Test, value.Value) bool{
 		Is:      Test.is,

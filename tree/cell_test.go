@@ -71,3 +71,21 @@ func TestAnythingIsRightAtNothingToo(t *testing.T) {
 		t.Error("- is not told from the other cells")
 	}
 }
+
+func TestPutsOut(t *testing.T) {
+	five := []Test{{Kind: Is, Value: number(5)}}
+	wrong, nothing := value.Value{Kind: value.Wrong}, value.Value{}
+	for _, c := range []struct {
+		cell Cell
+		at   value.Value
+		want bool
+	}{
+		{Cell{Tests: five}, number(5), false}, {Cell{Tests: five}, number(4), true}, {Cell{Not: true, Tests: five}, number(5), true}, {Cell{Not: true, Tests: five}, number(4), false},
+		{Cell{Tests: five}, nothing, true}, {Cell{Not: true, Tests: five}, nothing, true}, {Cell{Tests: five}, wrong, false}, {Cell{Not: true, Tests: five}, wrong, false},
+		{Cell{}, number(5), false}, {Cell{}, nothing, false}, {Cell{}, wrong, false},
+	} {
+		if got := c.cell.PutsOut(c.at); got != c.want {
+			t.Errorf("%v puts out at %s: %v", c.cell, c.at, got)
+		}
+	}
+}

@@ -5,6 +5,7 @@ import (
 
 	"wicket/api"
 	"wicket/eval"
+	"wicket/hang"
 	"wicket/tree"
 	"wicket/value"
 )
@@ -69,17 +70,30 @@ func (f *Form) Last() []string {
 	if f == nil {
 		return nil
 	}
+	return f.names(func(n int) bool { return f.last[n] })
+}
+
+// Wanted tells which questions an item hangs on (P8).
+func (f *Form) Wanted(name string) ([]string, api.Errno) {
+	n := f.find(name)
+	if n < 0 {
+		return nil, api.ErrName
+	}
+	wanted := hang.Of(f.items[:n+1], f.values[:])[n]
+	return f.names(wanted.Has), api.OK
+}
+
+// names are the names of the items that are chosen by their numbers, in their
+// order. The list is new each time: it is the caller's.
+func (f *Form) names(chosen func(int) bool) []string {
 	var names []string
 	for n, item := range f.items {
-		if f.last[n] {
+		if chosen(n) {
 			names = append(names, item.Name)
 		}
 	}
 	return names
 }
-
-// Wanted tells which questions an item hangs on (P8).
-func (f *Form) Wanted(name string) ([]string, api.Errno) { return nil, api.OK }
 
 // find is the number of the item of this name, or -1, if there is none: in a
 // form that did not come out there is no item.

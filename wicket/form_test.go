@@ -47,13 +47,17 @@ func drops(t *testing.T, f *Form, question string, want api.Errno) {
 func printed(f *Form) string { return (&Model{f.items}).Print() }
 
 // state is all that a form tells, but for what it is refused.
-func state(f *Form) []string {
+func state(f *Form) []string { return append(stands(f), f.Last()...) }
+
+// stands is what a form tells of its items.
+func stands(f *Form) []string {
 	var told []string
 	for _, item := range f.items {
 		v, _ := f.Value(item.Name)
-		told = append(told, v)
+		wanted, _ := f.Wanted(item.Name)
+		told = append(told, v, strings.Join(wanted, " "))
 	}
-	return append(told, f.Last()...)
+	return told
 }
 
 // lacking has, of ints and bools, a question that is not answered (n and m)
@@ -375,10 +379,12 @@ func TestP2FormsDoNotChangeOneAnother(t *testing.T) {
 	for _, c := range []struct {
 		f                *Form
 		plan, age, price string
-	}{{one, `"gold"`, "null", "20"}, {two, `"basic"`, "50", "8"}, {m.New(), "null", "null", "null"}} {
+		wanted           []string
+	}{{one, `"gold"`, "null", "20", nil}, {two, `"basic"`, "50", "8", nil}, {m.New(), "null", "null", "null", []string{"plan", "age"}}} {
 		comesTo(t, c.f, "plan", c.plan)
 		comesTo(t, c.f, "age", c.age)
 		comesTo(t, c.f, "price", c.price)
+		wants(t, c.f, "price", c.wanted...)
 	}
 	drops(t, two, "age", api.OK)
 	sets(t, two, "age", "50", api.OK)
@@ -418,6 +424,9 @@ func TestP1NoForm(t *testing.T) {
 			if got != "" || errno != api.ErrName || f.Set(name, "1") != api.ErrQuestion || f.Drop(name) != api.ErrQuestion || len(f.Last()) != 0 {
 				t.Errorf("P1: %s has an item %q", what, name)
 			}
+			if wanted, errno := f.Wanted(name); wanted != nil || errno != api.ErrName {
+				t.Errorf("P1: of %s Wanted(%q) = %v, %d", what, name, wanted, errno)
+			}
 		}
 	}
 }
@@ -439,7 +448,7 @@ func refill(t *testing.T, text string) {
 	}
 	whole := m.Print()
 	one, other := m.New(), m.New()
-	fresh := state(other)
+	fresh := stands(other)
 	for _, value := range []string{"0", "true", `"x"`, "-1", "false", `""`, "18", least, most} {
 		for _, item := range m.items {
 			one.Set(item.Name, value)
@@ -451,17 +460,14 @@ func refill(t *testing.T, text string) {
 			other.Set(item.Name, answer)
 		}
 	}
-	for _, item := range m.items {
-		v, _ := one.Value(item.Name)
-		if again, _ := other.Value(item.Name); v != again {
-			t.Errorf("P6: Value(%s) of %q = %s, and %s", item.Name, text, v, again)
-		}
+	if filled, again := stands(one), stands(other); !slices.Equal(filled, again) {
+		t.Errorf("P6, P8: of %q: %q, and %q", text, filled, again)
 	}
 	for _, item := range m.items {
 		one.Drop(item.Name)
 	}
-	for n, item := range m.items {
-		comesTo(t, one, item.Name, fresh[n])
+	if empty := stands(one); !slices.Equal(empty, fresh) {
+		t.Errorf("P6, P8: of %q: %q, and new %q", text, empty, fresh)
 	}
 	if m.Print() != whole {
 		t.Errorf("P2: a form changed its model %q", text)

@@ -227,6 +227,78 @@ func joined(policy string, outputs []string) string {
 	return best
 }
 
+// hangs is what it hangs on, where hung has what the items ahead hang on.
+func (d *drawing) hangs(values map[string]string, hung map[string][]string) []string {
+	if len(d.parts) == 0 {
+		return hung[d.head]
+	}
+	var sides [][]string
+	for _, part := range d.parts {
+		sides = append(sides, part.hangs(values, hung))
+	}
+	for n, enough := range map[string]string{"and": "false", "or": "true"} {
+		for side := range sides {
+			if d.head == n && len(sides[side]) == 0 && d.parts[side].value(values) == enough {
+				return nil
+			}
+		}
+	}
+	if d.head == "if" && len(sides[0]) == 0 {
+		switch d.parts[0].value(values) {
+		case "true":
+			return sides[1]
+		case "false":
+			return sides[2]
+		}
+		return nil
+	}
+	return slices.Concat(sides...)
+}
+
+func (i drawnItem) hangs(values map[string]string, hung map[string][]string) []string {
+	switch {
+	case i.expr != nil:
+		return i.expr.hangs(values, hung)
+	case i.rules == nil && values[i.name] == "null":
+		return []string{i.name}
+	}
+	var all []string
+	for _, rule := range i.counting(values, hung) {
+		for n, cell := range rule.cells {
+			if cell != "-" {
+				all = append(all, hung[i.columns[n]]...)
+			}
+		}
+		if i.policy != "count" {
+			all = append(all, rule.output.hangs(values, hung)...)
+		}
+	}
+	return all
+}
+
+// counting are the rules that are not out for good, of first up to the first
+// settled one.
+func (i drawnItem) counting(values map[string]string, hung map[string][]string) []drawnRule {
+	var rules []drawnRule
+	for _, rule := range i.rules {
+		sure := drawnRule{output: rule.output} // with those cells alone that can't change
+		for n, cell := range rule.cells {
+			if len(hung[i.columns[n]]) > 0 {
+				cell = "-"
+			}
+			sure.cells = append(sure.cells, cell)
+		}
+		if ruleStands(sure, i.columns, values) == "out" {
+			continue
+		}
+		rules = append(rules, rule)
+		if i.policy == "first" && slices.Equal(sure.cells, rule.cells) {
+			break
+		}
+	}
+	return rules
+}
+
 // drawn is a model: its items, and how many of them are questions.
 type drawn struct {
 	random    *rand.Rand
@@ -373,6 +445,20 @@ func (d *drawn) values(answers map[string]string) map[string]string {
 	return values
 }
 
+// wanted is what each item hangs on, in the order of the items.
+func (d *drawn) wanted(values map[string]string) map[string][]string {
+	hung := map[string][]string{}
+	for _, item := range d.items {
+		on := item.hangs(values, hung)
+		for _, question := range d.items[:d.questions] {
+			if slices.Contains(on, question.name) {
+				hung[item.name] = append(hung[item.name], question.name)
+			}
+		}
+	}
+	return hung
+}
+
 // last are the decisions that name what has become another.
 func (d *drawn) last(was, is map[string]string) []string {
 	changed := map[string]bool{}
@@ -408,6 +494,27 @@ func (s *sheet) holds(t *testing.T, text string) {
 	}
 }
 
+// wants looks at what is wanted of each item, and that what is not does not matter.
+func (s *sheet) wants(t *testing.T, d *drawn) {
+	t.Helper()
+	hung := d.wanted(s.values)
+	for _, item := range d.items {
+		got, errno := s.form.Wanted(item.name)
+		if !slices.Equal(got, hung[item.name]) || errno != api.OK {
+			t.Fatalf("P8: Wanted(%s) of %q at %v = %v, %d, want %v", item.name, d.text(), s.answers, got, errno, hung[item.name])
+		}
+		other := *s.form
+		for _, question := range d.items[:d.questions] {
+			if s.values[question.name] == "null" && !slices.Contains(got, question.name) {
+				sets(t, &other, question.name, d.answer(question.kind), api.OK)
+			}
+		}
+		if v, _ := other.Value(item.name); v != s.values[item.name] {
+			t.Fatalf("P9: %s of %q at %v wants %v, and is %s, but %s with %v", item.name, d.text(), s.answers, got, s.values[item.name], v, stands(&other))
+		}
+	}
+}
+
 // step answers, drops or is refused, and is judged.
 func (s *sheet) step(t *testing.T, d *drawn) {
 	t.Helper()
@@ -431,6 +538,42 @@ func (s *sheet) step(t *testing.T, d *drawn) {
 	was := s.values
 	s.values = d.values(s.answers)
 	s.last = d.last(was, s.values)
+}
+
+// TestP8P9Judged asks forms of many models, at many answers, what is wanted.
+func TestP8P9Judged(t *testing.T) {
+	random := rand.New(rand.NewSource(13))
+	loaded, counts := 0, map[string]int{}
+	for range 3000 {
+		d := draw(random)
+		m, errno, _ := Load(d.text())
+		if errno != api.OK || len(d.items) == d.questions {
+			continue
+		}
+		loaded++
+		s := &sheet{form: m.New(), answers: map[string]string{}, values: d.values(nil)}
+		s.wants(t, d)
+		for range 10 {
+			s.step(t, d)
+			s.wants(t, d)
+			hung := d.wanted(s.values)
+			for _, item := range d.items[d.questions:] {
+				free := d.questions - len(s.answers)
+				switch wanted := len(hung[item.name]); {
+				case free == 0:
+				case wanted == 0:
+					counts["none"]++
+				case wanted < free:
+					counts["some"]++
+				default:
+					counts["all"]++
+				}
+			}
+		}
+	}
+	if loaded < 2000 || counts["none"] < 5000 || counts["some"] < 5000 || counts["all"] < 5000 {
+		t.Errorf("the models are too much alike: %d, %v", loaded, counts)
+	}
 }
 
 // TestP6P7Judged fills in two forms of each of many models, step by step.

@@ -183,5 +183,6 @@ func FuzzLoad(f *testing.F) {
 		reprint(t, text)
 		recheck(t, text)
 		refill(t, text)
+		overlook(t, text)
 	})
 }
